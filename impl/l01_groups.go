@@ -467,13 +467,24 @@ func DirectProduct(g Group, h Group) (Group, int64) {
 	}), ErrNone
 }
 
+// target is what the elements of a group are led to: some values, ascending, and their products.
+type target struct {
+	values  []int64
+	product func(x, y int64) int64
+}
+
+// groupTarget returns the target with the elements of a group.
+func groupTarget(h Group) target {
+	return target{slices.Collect(elementsOf(h)), func(x, y int64) int64 { return h.Table[x][y] }}
+}
+
 // keepsProducts reports whether the images of the first elements of g agree with all products of
 // these that are among them.
-func keepsProducts(g, h Group, images []int64) bool {
+func keepsProducts(g Group, to target, images []int64) bool {
 	for a, x := range images {
 		for b, y := range images {
 			c := g.Table[a][b]
-			if c < int64(len(images)) && images[c] != h.Table[x][y] {
+			if c < int64(len(images)) && images[c] != to.product(x, y) {
 				return false
 			}
 		}
@@ -495,25 +506,26 @@ func IsHomomorphism(g Group, h Group, images []int64) (bool, int64) {
 	if !isImageList(g, h, images) {
 		return false, ErrRange
 	}
-	return keepsProducts(g, h, images), ErrNone
+	return keepsProducts(g, groupTarget(h), images), ErrNone
 }
 
-// homomorphisms ranges over all homomorphisms of g to h, in lexicographic order.
-func homomorphisms(g, h Group) iter.Seq[[]int64] {
+// homomorphisms ranges over all homomorphisms of g to a target, in lexicographic order. Each one is
+// a list of its own.
+func homomorphisms(g Group, to target) iter.Seq[[]int64] {
 	return func(yield func([]int64) bool) {
-		continueImages(g, h, nil, yield)
+		continueImages(g, to, nil, yield)
 	}
 }
 
 // continueImages yields all homomorphisms that begin with some images, and reports whether more are
 // wanted.
-func continueImages(g, h Group, images []int64, yield func([]int64) bool) bool {
+func continueImages(g Group, to target, images []int64, yield func([]int64) bool) bool {
 	if int64(len(images)) == groupOrder(g) {
 		return yield(images)
 	}
-	for c := range elementsOf(h) {
+	for _, c := range to.values {
 		longer := append(slices.Clone(images), c)
-		if keepsProducts(g, h, longer) && !continueImages(g, h, longer, yield) {
+		if keepsProducts(g, to, longer) && !continueImages(g, to, longer, yield) {
 			return false
 		}
 	}
@@ -525,7 +537,7 @@ func HomomorphismsOf(g Group, h Group) ([][]int64, int64) {
 	if !IsGroup(g) || !IsGroup(h) {
 		return nil, ErrInvalid
 	}
-	return slices.Collect(homomorphisms(g, h)), ErrNone
+	return slices.Collect(homomorphisms(g, groupTarget(h))), ErrNone
 }
 
 // FindIsomorphism returns the lexicographically least isomorphism of g to h, and ErrNone. Errors:
@@ -537,7 +549,7 @@ func FindIsomorphism(g Group, h Group) ([]int64, int64) {
 	if groupOrder(g) != groupOrder(h) {
 		return nil, ErrNotFound
 	}
-	for images := range homomorphisms(g, h) {
+	for images := range homomorphisms(g, groupTarget(h)) {
 		if setOf(images).size() == groupOrder(h) {
 			return images, ErrNone
 		}

@@ -784,22 +784,7 @@ func TestRowsShareNoMemory(t *testing.T) {
 		"ClassesOf":       func() [][]int64 { r, _ := impl.ClassesOf(g); return r },
 		"HomomorphismsOf": func() [][]int64 { r, _ := impl.HomomorphismsOf(g, g); return r },
 	}
-	text := fmt.Sprint(g)
-	for name, call := range groups {
-		want := call()
-		for i := range want {
-			got := call()
-			overwrite(got[i])
-			for j := range got {
-				if j != i && !slices.Equal(got[j], want[j]) {
-					t.Errorf("%s: the rows %d and %d share memory", name, i, j)
-				}
-			}
-		}
-		if fmt.Sprint(g) != text || !equalLists(call(), want) {
-			t.Errorf("%s shares memory with its argument", name)
-		}
-	}
+	checkSharing(t, groups, func() string { return fmt.Sprint(g) })
 }
 
 // spareGroup returns a group whose rows have marked spare capacity.

@@ -97,20 +97,27 @@ func notGroups() map[string]impl.Group {
 func failed(results []any, code int64) bool {
 	last := len(results) - 1
 	for _, r := range results[:last] {
-		if l, ok := r.([]int64); ok && len(l) == 0 {
-			continue
-		}
-		if l, ok := r.([][]int64); ok && len(l) == 0 {
-			continue
-		}
-		if g, ok := r.(impl.Group); ok && len(g.Table) == 0 {
-			continue
-		}
-		if !reflect.ValueOf(r).IsZero() || reflect.ValueOf(r).Kind() == reflect.Slice {
+		if !isZero(reflect.ValueOf(r)) {
 			return false
 		}
 	}
 	return results[last] == any(code)
+}
+
+// isZero reports whether a value is zero, nil and empty slices being the same.
+func isZero(v reflect.Value) bool {
+	switch v.Kind() {
+	case reflect.Slice:
+		return v.Len() == 0
+	case reflect.Struct:
+		for i := range v.NumField() {
+			if !isZero(v.Field(i)) {
+				return false
+			}
+		}
+		return true
+	}
+	return v.IsZero()
 }
 
 // all puts the results of a call into a list.
@@ -155,4 +162,26 @@ func byHand(g impl.Group, a int64) int64 {
 		}
 	}
 	return -1
+}
+
+// checkSharing overwrites, in turn, each list of the results of some calls: neither other lists of
+// the result, nor the arguments, told as a text, nor later results change.
+func checkSharing(t *testing.T, calls map[string]func() [][]int64, arguments func() string) {
+	t.Helper()
+	before := arguments()
+	for name, call := range calls {
+		want := call()
+		for i := range want {
+			got := call()
+			overwrite(got[i])
+			for j := range got {
+				if j != i && !slices.Equal(got[j], want[j]) {
+					t.Errorf("%s: the lists %d and %d share memory", name, i, j)
+				}
+			}
+		}
+		if arguments() != before || !equalLists(call(), want) {
+			t.Errorf("%s shares memory with its argument", name)
+		}
+	}
 }
