@@ -169,15 +169,18 @@ func IsGroup(g Group) bool {
 // isElement reports whether a number is an element of a group.
 func isElement(g Group, a int64) bool { return a >= 0 && a < groupOrder(g) }
 
-// isElementList reports whether all numbers of a list are elements of a group.
-func isElementList(g Group, list []int64) bool {
-	for _, a := range list {
-		if !isElement(g, a) {
+// areBelow reports whether all numbers of a list are in 0..m - 1.
+func areBelow(m int64, list []int64) bool {
+	for _, x := range list {
+		if x < 0 || x >= m {
 			return false
 		}
 	}
 	return true
 }
+
+// isElementList reports whether all numbers of a list are elements of a group.
+func isElementList(g Group, list []int64) bool { return areBelow(groupOrder(g), list) }
 
 // isElementSet reports whether a list is an ascending list of different elements of a group.
 func isElementSet(g Group, list []int64) bool {
