@@ -239,16 +239,21 @@ func elementOrder(g Group, a int64) int64 {
 	return k
 }
 
+// elementOrders returns the orders of all elements.
+func elementOrders(g Group) []int64 {
+	orders := make([]int64, groupOrder(g))
+	for a := range elementsOf(g) {
+		orders[a] = elementOrder(g, a)
+	}
+	return orders
+}
+
 // OrdersOf returns the orders of all elements, and ErrNone.
 func OrdersOf(g Group) ([]int64, int64) {
 	if !IsGroup(g) {
 		return nil, ErrInvalid
 	}
-	orders := make([]int64, groupOrder(g))
-	for a := range elementsOf(g) {
-		orders[a] = elementOrder(g, a)
-	}
-	return orders, ErrNone
+	return elementOrders(g), ErrNone
 }
 
 // centreSet returns the set of all elements a with a b = b a for all b.

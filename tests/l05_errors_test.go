@@ -201,16 +201,12 @@ func TestCrossedArgumentsAreKept(t *testing.T) {
 	}
 }
 
-// TestNoGoroutineIsLeft: after many calls, those with errors among them, there are no more goroutines
-// than before. One that has sent all may take a moment to end.
-func TestNoGoroutineIsLeft(t *testing.T) {
-	g := named(t, "cube")
+// checkNoGoroutineLeft: some calls leave no more goroutines than there are before. One that has done its
+// part may take a moment to end.
+func checkNoGoroutineLeft(t *testing.T, calls func()) {
+	t.Helper()
 	before := runtime.NumGoroutine()
-	for _, a := range modulesOf(t, g, 4) {
-		mapCalls(g, a)
-		crossedCalls(g, a, make([]int64, 8))
-		mapCalls(g, impl.Module{M: 13, Units: a.Units})
-	}
+	calls()
 	for range 500 {
 		if runtime.NumGoroutine() <= before {
 			return
@@ -218,6 +214,19 @@ func TestNoGoroutineIsLeft(t *testing.T) {
 		time.Sleep(10 * time.Millisecond)
 	}
 	t.Errorf("%d goroutines, %d before", runtime.NumGoroutine(), before)
+}
+
+// TestNoGoroutineIsLeft: after many calls, those with errors among them, there are no more goroutines
+// than before.
+func TestNoGoroutineIsLeft(t *testing.T) {
+	g := named(t, "cube")
+	checkNoGoroutineLeft(t, func() {
+		for _, a := range modulesOf(t, g, 4) {
+			mapCalls(g, a)
+			crossedCalls(g, a, make([]int64, 8))
+			mapCalls(g, impl.Module{M: 13, Units: a.Units})
+		}
+	})
 }
 
 // TestCrossedAgain: the same arguments have the same results, also where calls go on side by side.
