@@ -593,6 +593,9 @@ type groupPlan struct {
 	product func(a, b int64) int64
 }
 
+// group returns the group that the plan tells.
+func (p groupPlan) group() Group { return groupWith(p.order, p.product) }
+
 // cyclicPlan returns the plan of the numbers modulo n with their sums.
 func cyclicPlan(n int64) groupPlan {
 	return groupPlan{n, func(a, b int64) int64 { return (a + b) % n }}
@@ -645,7 +648,7 @@ func NamedGroup(name string) (Group, int64) {
 	if !found {
 		return Group{}, ErrNotFound
 	}
-	return groupWith(plan.order, plan.product), ErrNone
+	return plan.group(), ErrNone
 }
 
 // GroupText returns the text of g, and ErrNone.

@@ -229,17 +229,15 @@ func TestNoGoroutineIsLeft(t *testing.T) {
 	})
 }
 
-// TestCrossedAgain: the same arguments have the same results, also where calls go on side by side.
-func TestCrossedAgain(t *testing.T) {
-	g := named(t, "dihedral")
-	modules := modulesOf(t, g, 12)
+// checkAgain reports a call that has not the same results, told as a text, each time, also where such calls go
+// on side by side.
+func checkAgain(t *testing.T, call func() string) {
+	t.Helper()
 	told := make([]string, 8)
 	done := make(chan bool)
 	for i := range told {
 		go func() {
-			for _, a := range modules {
-				told[i] += fmt.Sprint(mapCalls(g, a))
-			}
+			told[i] = call()
 			done <- true
 		}()
 	}
@@ -251,4 +249,17 @@ func TestCrossedAgain(t *testing.T) {
 			t.Errorf("call %d has other results", i)
 		}
 	}
+}
+
+// TestCrossedAgain: the same arguments have the same results, also where calls go on side by side.
+func TestCrossedAgain(t *testing.T) {
+	g := named(t, "dihedral")
+	modules := modulesOf(t, g, 12)
+	checkAgain(t, func() string {
+		told := ""
+		for _, a := range modules {
+			told += fmt.Sprint(mapCalls(g, a))
+		}
+		return told
+	})
 }

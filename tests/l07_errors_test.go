@@ -370,24 +370,13 @@ func TestNoGoroutineOfSubgroupsIsLeft(t *testing.T) {
 func TestSubgroupsAgain(t *testing.T) {
 	g := named(t, "quaternion")
 	modules := modulesOf(t, g, 12)
-	told := make([]string, 8)
-	done := make(chan bool)
-	for i := range told {
-		go func() {
-			for _, a := range modules {
-				for _, h := range subgroupsByHand(g) {
-					told[i] += fmt.Sprint(listCalls(g, h), elementCalls(g, h, 3), partCalls(g, a, h, impl.Cochain{Values: []int64{7}}, 6))
-				}
+	checkAgain(t, func() string {
+		told := ""
+		for _, a := range modules {
+			for _, h := range subgroupsByHand(g) {
+				told += fmt.Sprint(listCalls(g, h), elementCalls(g, h, 3), partCalls(g, a, h, impl.Cochain{Values: []int64{7}}, 6))
 			}
-			done <- true
-		}()
-	}
-	for range told {
-		<-done
-	}
-	for i := range told {
-		if told[i] != told[0] {
-			t.Errorf("call %d has other results", i)
 		}
-	}
+		return told
+	})
 }

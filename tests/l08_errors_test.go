@@ -324,24 +324,13 @@ func TestNoGoroutineOfSequencesIsLeft(t *testing.T) {
 func TestSequencesAgain(t *testing.T) {
 	g := named(t, "klein")
 	modules := modulesOf(t, g, 12)
-	told := make([]string, 8)
-	done := make(chan bool)
-	for i := range told {
-		go func() {
-			for _, a := range modules {
-				for _, k := range []int64{2, 3, 4, 5, 6, 12} {
-					told[i] += fmt.Sprint(sequenceModuleCalls(g, a, k), sequenceCochainCalls(g, a, k, sampleCochain(g, a, 1, k)), imageCalls(g, a, k, 2))
-				}
+	checkAgain(t, func() string {
+		told := ""
+		for _, a := range modules {
+			for _, k := range []int64{2, 3, 4, 5, 6, 12} {
+				told += fmt.Sprint(sequenceModuleCalls(g, a, k), sequenceCochainCalls(g, a, k, sampleCochain(g, a, 1, k)), imageCalls(g, a, k, 2))
 			}
-			done <- true
-		}()
-	}
-	for range told {
-		<-done
-	}
-	for i := range told {
-		if told[i] != told[0] {
-			t.Errorf("call %d has other results", i)
 		}
-	}
+		return told
+	})
 }
